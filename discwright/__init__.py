@@ -1,0 +1,1 @@
+"""Discwright: preserving discs and cartridges."""
