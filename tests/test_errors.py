@@ -27,11 +27,6 @@ class ErrorsTest(unittest.TestCase):
                 if name != other:
                     self.assertFalse(issubclass(getattr(errors, name), getattr(errors, other)), (name, other))
 
-    def test_they_can_be_raised_and_caught(self):
-        for name in PLAIN:
-            with self.assertRaises(errors.DiscError):
-                raise getattr(errors, name)("why")
-
     def test_fields(self):
         for name in WITH_INDEX:
             for index in (0, 7):

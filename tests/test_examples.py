@@ -22,6 +22,31 @@ ENCODINGS = """
 [[0, 1, 0, 0, 0, 1, 0, 0], ([161, 0], []), [0, 1, 0, 0, 1]]
 """
 
+TRACKS = """
+>>> from discwright.tracks import Sector, track_cells, found_sectors
+>>> cells = track_cells([Sector((0, 1, 3, 0), list(range(16)))])
+>>> [(place, address, address_good, data[:3], data_good) for place, address, address_good, data, data_good in found_sectors(cells)]
+[(256, (0, 1, 3, 0), True, (0, 1, 2), True)]
+"""
+
+IMAGES = """
+>>> from discwright.flux import Read
+>>> from discwright.images import Image, image_bytes, read_image
+>>> image = Image(100, "a", {(0, 1): [Read([200, 300, 200], 7)]})
+>>> [image_bytes(image)[:7], read_image(image_bytes(image))[0] == image, read_image(image_bytes(image))[1]]
+[[68, 87, 73, 100, 1, 97, 1], True, []]
+"""
+
+MERGING = """
+>>> from discwright.tracks import Sector, track_cells
+>>> from discwright.flux import flux_of
+>>> from discwright.merging import outcomes
+>>> right = flux_of(track_cells([Sector((0, 0, 1, 0), [7] * 16)]), 50)
+>>> wrong = flux_of(track_cells([Sector((0, 0, 1, 0), [9] * 16, data_wrong=True)]), 50)
+>>> [outcomes([wrong, right], 50)[0][1][0], outcomes([wrong], 50)]
+['good', [(((0, 0, 1, 0), 0), ('lost',))]]
+"""
+
 
 class ExamplesTest(unittest.TestCase):
 
@@ -39,6 +64,15 @@ class ExamplesTest(unittest.TestCase):
 
     def test_encodings(self):
         self.run_example(ENCODINGS)
+
+    def test_tracks(self):
+        self.run_example(TRACKS)
+
+    def test_images(self):
+        self.run_example(IMAGES)
+
+    def test_merging(self):
+        self.run_example(MERGING)
 
 
 if __name__ == "__main__":

@@ -1,0 +1,36 @@
+"""Numbers in digits of the base 128 (point 19)."""
+
+from discwright.errors import BadBytes
+
+
+def write_number(number):
+    """The bytes of a number, the lowest digit first."""
+    values = []
+    while number > 127:
+        values.append(128 + number % 128)
+        number = number // 128
+    values.append(number)
+    return values
+
+
+def number_at(values, at):
+    """The number that begins at an index and the index behind it, even if its last digit is a needless 0."""
+    if at < 0:
+        raise BadBytes("no number begins before the bytes")
+    end = at
+    while end < len(values) and values[end] > 127:
+        end += 1
+    if end >= len(values):
+        raise BadBytes("the bytes end before a number does")
+    number = 0
+    for digit in reversed(values[at:end + 1]):
+        number = number * 128 + digit % 128
+    return number, end + 1
+
+
+def read_number(values, at):
+    """The number that begins at an index and the index behind it."""
+    number, end = number_at(values, at)
+    if end - at > 1 and values[end - 1] == 0:
+        raise BadBytes("the last digit of a number is a needless 0")
+    return number, end
