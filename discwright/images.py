@@ -3,7 +3,7 @@
 from discwright.bytework import are_bytes, crc, two_bytes
 from discwright.errors import BadBytes, InvalidImage, InvalidRead
 from discwright.flux import MOST_INTERVALS, Read, is_cell
-from discwright.numbers import number_at, read_number, write_number
+from discwright.numbers import read_number, write_number
 from discwright.texts import codes_text, is_plain_text, text_codes
 
 FIRST_BYTES = (68, 87, 73)
@@ -127,21 +127,21 @@ def read_head(values):
 
 def scanned_read(values, at):
     """The numbers of a read, the packed intervals and the rest, whatever they say, and the index behind them."""
-    count, at = number_at(values, at)
+    count, at = read_number(values, at)
     if count > MOST_INTERVALS:
         raise BadBytes("a read has too many intervals")
     numbers = []
     for _ in range(count + 1):
-        number, at = number_at(values, at)
+        number, at = read_number(values, at)
         numbers.append(number)
     return numbers, at
 
 
 def scanned_track(values, at):
     """The place of a track, the numbers of its reads, whatever they say, and the index behind them."""
-    cylinder, at = number_at(values, at)
-    head, at = number_at(values, at)
-    count, at = number_at(values, at)
+    cylinder, at = read_number(values, at)
+    head, at = read_number(values, at)
+    count, at = read_number(values, at)
     if not 1 <= count <= MOST_READS:
         raise BadBytes("the number of the reads of a track is out of range")
     reads = []
@@ -172,8 +172,8 @@ def read_tracks(values, at, count):
             damaged.append(place)
             continue
         reads = [read_of(numbers) for numbers in scanned]
-        # Bytes of the right form are just those that writing gives: this sees needless digits
-        # and intervals that are not packed as they must be.
+        # Bytes of the right form are just those that writing gives: this sees intervals that are
+        # not packed as they must be.
         if place <= last or track_part(place, reads) != values[start:end]:
             raise BadBytes("a track is out of order or wrong in its form")
         tracks[place] = reads

@@ -13,8 +13,8 @@ def write_number(number):
     return values
 
 
-def number_at(values, at):
-    """The number that begins at an index and the index behind it, even if its last digit is a needless 0."""
+def read_number(values, at):
+    """The number that begins at an index and the index behind it."""
     if at < 0:
         raise BadBytes("no number begins before the bytes")
     end = at
@@ -22,15 +22,9 @@ def number_at(values, at):
         end += 1
     if end >= len(values):
         raise BadBytes("the bytes end before a number does")
+    if end > at and values[end] == 0:
+        raise BadBytes("the last digit of a number is a needless 0")
     number = 0
     for digit in reversed(values[at:end + 1]):
         number = number * 128 + digit % 128
     return number, end + 1
-
-
-def read_number(values, at):
-    """The number that begins at an index and the index behind it."""
-    number, end = number_at(values, at)
-    if end - at > 1 and values[end - 1] == 0:
-        raise BadBytes("the last digit of a number is a needless 0")
-    return number, end

@@ -501,6 +501,28 @@ class WrongFormTest(BytesTest):
             needless = right[:at] + [128 + right[at], 0] + right[at + 1:]
             self.refused(model_head(100, "a", 1) + with_model_crc(needless))
 
+    def test_needless_digits_under_a_wrong_crc(self):
+        """No number stands where the digits end with a needless 0, so the end of the track is not found."""
+        numbers = [3, 1, 2, 2, 15, 2, 300, 0, 5]
+        digits = [model_number(number) for number in numbers]
+        for end in (with_model_crc, lambda part: damaged(with_model_crc(part))):
+            for at in range(len(numbers)):
+                for needless in ([128 + numbers[at] % 128, 0], digits[at][:-1] + [128 + digits[at][-1], 0], [128, 0],
+                                 [128 + numbers[at] % 128, 128, 0]):
+                    part = end(sum(digits[:at], []) + needless + sum(digits[at + 1:], []))
+                    self.refused(model_head(100, "a", 1) + part)
+                    self.refused(model_head(100, "a", 2) + part + PARTS[2])
+                    self.refused(model_head(100, "a", 2) + PARTS[0] + part)
+            part = end(sum(digits, []))
+            told = read_image(model_head(100, "a", 2) + part + PARTS[2])
+            self.assertEqual(told[0].reads((40, 0)), TRACKS[40, 0])
+            self.assertEqual(told[1], [] if end is with_model_crc else [(3, 1)])
+
+    def test_needless_digits_in_the_place_of_a_crc(self):
+        """The two bytes behind a track are no number."""
+        part = track_of_numbers(3, 1, 1, 0, 5)[:-2] + [128, 0]
+        self.told(model_head(100, "a", 2) + part + PARTS[2], {(40, 0): TRACKS[40, 0]}, [(3, 1)])
+
     def test_places_that_do_not_ascend(self):
         for order in ((1, 0), (2, 1), (2, 0), (0, 0), (2, 2)):
             self.refused(model_head(100, "a", 2) + PARTS[order[0]] + PARTS[order[1]])
