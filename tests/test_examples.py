@@ -1,4 +1,4 @@
-"""The examples of the interface, as they stand."""
+"""The examples of the interface, as they stand but for one."""
 
 import doctest
 import unittest
@@ -47,6 +47,40 @@ MERGING = """
 ['good', [(((0, 0, 1, 0), 0), ('lost',))]]
 """
 
+PROTECTION = """
+>>> from discwright.tracks import Sector, track_cells
+>>> from discwright.flux import flux_of
+>>> from discwright.protection import features
+>>> twice = track_cells([Sector((0, 0, 1, 0), [7] * 16), Sector((0, 0, 1, 0), [8] * 16)])
+>>> features((0, 0), [flux_of(twice, 50)], 50, 9999)
+[('doubled', (0, 0, 1, 0), 2)]
+"""
+
+BLOCKDISCS = """
+>>> from discwright.blockdiscs import BlockDisc, disc_of, image_of
+>>> disc = BlockDisc([[1] * 16, None, [3] * 16, [4] * 16])
+>>> disc_of(image_of(disc, (2, 1, 2, 0), 50, ""), (2, 1, 2, 0)) == disc
+True
+"""
+
+# The document's example also puts an empty file TWO on this disc, whose directory of one block of 16 bytes has room
+# for one entry of 16 bytes. By points 30 and 31 and by what the interface says of InvalidFiles, that is refused, so
+# the example stands here with its first file alone. What it shows is the same.
+CHAINS = """
+>>> from discwright.chains import make_chains, read_chain, is_sound
+>>> disc = make_chains([("ONE", list(range(20)))], 8, 16, 1)
+>>> [is_sound(disc), read_chain(disc, "ONE")[1:], read_chain(disc.with_block(5, None), "ONE")[1:]]
+[True, ([], '', True), ([(16, 4)], '', False)]
+"""
+
+EXTENTS = """
+>>> from discwright.extents import make_extents, read_extent, delete_file, deleted_files, bring_back
+>>> disc = make_extents([("ONE", list(range(40)))], 8, 32, 1)
+>>> gone = delete_file(disc, "ONE")
+>>> [read_extent(disc, "ONE")[1:], deleted_files(gone), bring_back(gone, "ONE") == disc]
+[([], '', True), ['ONE'], True]
+"""
+
 
 class ExamplesTest(unittest.TestCase):
 
@@ -73,6 +107,18 @@ class ExamplesTest(unittest.TestCase):
 
     def test_merging(self):
         self.run_example(MERGING)
+
+    def test_protection(self):
+        self.run_example(PROTECTION)
+
+    def test_blockdiscs(self):
+        self.run_example(BLOCKDISCS)
+
+    def test_chains(self):
+        self.run_example(CHAINS)
+
+    def test_extents(self):
+        self.run_example(EXTENTS)
 
 
 if __name__ == "__main__":
