@@ -81,6 +81,36 @@ EXTENTS = """
 [([], '', True), ['ONE'], True]
 """
 
+UNKNOWNS = """
+>>> from discwright.bytework import crc
+>>> from discwright.unknowns import solution, solution_count
+>>> [solution([0, 50, 0], [3, 10, 23], crc([16, 50, 1])), solution_count([0, 50, 0], [3, 10, 23], 65535)]
+[[16, 50, 1], 0]
+"""
+
+REPAIRS = """
+>>> from discwright.bytework import crc
+>>> from discwright.blockdiscs import BlockDisc
+>>> from discwright.repairs import Case, found_repairs
+>>> true = [[1] * 16, [2] * 16, [3] * 16]
+>>> case = Case(BlockDisc([[1] * 16, [2] * 15 + [6], None]), [], [(0, 1, 2)], {1: crc([2] * 16)})
+>>> [(index, values[-1], certificate) for index, values, certificate in found_repairs(case)]
+[(1, 2, ('crc', (125,))), (2, 3, ('parity', 0))]
+"""
+
+CARTRIDGES = """
+>>> from discwright.cartridges import true_length, merged
+>>> [true_length([1, 2] * 16), true_length(list(range(32)) + [9] * 32), merged([[1, 2], [1, 3], [4, 5]])]
+[16, 48, [1, None]]
+"""
+
+PATCHES = """
+>>> from discwright.patches import difference, patch_bytes
+>>> patch = difference([1, 2, 3, 4], [1, 9, 9, 4])
+>>> [patch.changes, patch.opposite().apply([1, 9, 9, 4]), patch_bytes(patch)[:6]]
+[((1, (2, 3), (9, 9)),), [1, 2, 3, 4], [80, 65, 1, 1, 2, 2]]
+"""
+
 
 class ExamplesTest(unittest.TestCase):
 
@@ -119,6 +149,18 @@ class ExamplesTest(unittest.TestCase):
 
     def test_extents(self):
         self.run_example(EXTENTS)
+
+    def test_unknowns(self):
+        self.run_example(UNKNOWNS)
+
+    def test_repairs(self):
+        self.run_example(REPAIRS)
+
+    def test_cartridges(self):
+        self.run_example(CARTRIDGES)
+
+    def test_patches(self):
+        self.run_example(PATCHES)
 
 
 if __name__ == "__main__":
