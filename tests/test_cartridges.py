@@ -3,6 +3,7 @@
 import random
 import unittest
 
+from discwright.bytework import crc
 from discwright.cartridges import Cartridge, Mapper, make_cartridge, merged, trimmed, true_length
 from discwright.errors import DiscError, InvalidDump, NoHeader
 from tests.models import model_crc
@@ -248,6 +249,14 @@ class HeaderTest(unittest.TestCase):
                     self.assertEqual(Cartridge(values).title, title.rstrip(" "))
                 else:
                     self.refused(values)
+
+    def test_values_that_are_no_bytes(self):
+        """With the CRC that the program itself gives for them."""
+        for value in (256, 263, -1):
+            content = [value] + [7] * 63
+            self.refused(header(1, 0, crc(content), "A       ") + content)
+            right = cartridge_bytes(0, "A", [7] * 64)
+            self.refused(right[:8] + [value] + right[9:])
 
     def test_the_bytes_stay(self):
         values = cartridge_bytes(0, "A", [7] * 64)

@@ -788,6 +788,13 @@ class SoundTest(ChainsTest):
         self.unsound(edited(DISC, 6, 0, [97]))
         self.unsound(edited(DISC, 6, 0, [79, 78, 69]))
 
+    def test_bad_entries_of_empty_files(self):
+        """They have no blocks, so nothing else is wrong."""
+        disc = make_chains([("A", [1]), ("E", []), ("F", [])], 12, 64, 1)
+        self.sound(disc)
+        self.unsound(edited(disc, 3, 16, [101]))
+        self.unsound(edited(disc, 3, 32, [69]))
+
     def test_an_empty_file_with_a_first_block(self):
         disc = make_chains([("E", []), ("A", [1])], 12, 32, 1)
         self.sound(disc)

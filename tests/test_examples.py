@@ -3,6 +3,9 @@
 import doctest
 import unittest
 
+from discwright.chains import make_chains
+from discwright.errors import InvalidFiles
+
 BYTEWORK = """
 >>> from discwright.bytework import crc, parity
 >>> [crc([]), crc([49, 50, 51]), parity([[1, 255], [3, 15]])]
@@ -146,6 +149,11 @@ class ExamplesTest(unittest.TestCase):
 
     def test_chains(self):
         self.run_example(CHAINS)
+
+    def test_chains_with_two_files(self):
+        """The document's example with its second file, for which the directory has no room."""
+        with self.assertRaises(InvalidFiles):
+            make_chains([("ONE", list(range(20))), ("TWO", [])], 8, 16, 1)
 
     def test_extents(self):
         self.run_example(EXTENTS)

@@ -441,6 +441,12 @@ class ReadingTest(ExtentsTest):
         self.reads(with_entries(DISC, {3: entry_of("EMPTY", 0, 0, 0, [])}), "EMPTY", [], [], "", False)
         self.reads(edited(DISC, 14, 36, [9] * 28), "TWO", TWO, [], "", True)
 
+    def test_a_missing_block_whose_bytes_were_0(self):
+        disc = make_extents([("ZERO", [0] * 100)], 10, 64, 1)
+        self.reads(disc, "ZERO", [0] * 100, [], "", True)
+        self.reads(without(disc, 2), "ZERO", [0] * 100, [(0, 64)], "", False)
+        self.assertEqual([are_extents_sound(disc), are_extents_sound(without(disc, 2))], [True, False])
+
     def test_extents_in_another_order(self):
         disc = with_entries(DISC, {0: entry_at(DISC, 1), 1: entry_at(DISC, 0)})
         self.reads(disc, "ONE", ONE, [], "", True)
@@ -693,6 +699,20 @@ class DeletingTest(ExtentsTest):
         })
         self.cannot(disc, "MANY")
 
+    def test_blocks_that_are_no_data_blocks(self):
+        """Even if their bytes are just those that the file had."""
+        values = [5] * 512 + DISC.block(0)
+        disc = DISC
+        for index in range(20, 29):
+            disc = disc.with_block(index, values[64 * (index - 20):64 * (index - 19)])
+        for last in (28, 0):
+            entries = file_entries("MANY", values, list(range(20, 28)) + [last], first=229)
+            gone = with_entries(disc, {4: entries[0], 5: entries[1]})
+            if last == 28:
+                self.can(gone, "MANY", values)
+            else:
+                self.cannot(gone, "MANY")
+
     def test_missing_and_changed_blocks(self):
         gone = delete_file(DISC, "ONE")
         for index in (4, 8, 12):
@@ -788,6 +808,13 @@ class SoundTest(ExtentsTest):
                 self.unsound(disc)
             else:
                 self.sound(disc)
+
+    def test_missing_blocks_that_no_file_has(self):
+        disc = make_extents([], 30, 64, 3)
+        self.sound(disc)
+        self.unsound(without(disc, 3))
+        self.sound(without(disc, 4))
+        self.sound(without(disc, *range(4, 30)))
 
     def test_entries_of_another_form(self):
         self.unsound(with_entries(DISC, {4: [7] * 32}))

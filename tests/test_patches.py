@@ -3,6 +3,7 @@
 import random
 import unittest
 
+from discwright.bytework import crc, two_bytes
 from discwright.errors import BadBytes, DifferentLengths, DiscError, DoesNotFit, InvalidPatch
 from discwright.patches import Patch, difference, fine_difference, patch_bytes, read_patch
 from tests.models import model_number, with_model_crc
@@ -462,6 +463,14 @@ class BytesTest(PatchesTest):
         for at in range(len(right)):
             for value in (256, -1, right[at] + 256, right[at] - 256):
                 self.bad(right[:at] + [value] + right[at + 1:])
+
+    def test_values_that_are_no_bytes_with_the_crc_that_the_program_gives(self):
+        for number in (1, -127):
+            part = [80, 65, 1, number, 1, 1, 5, 6]
+            if number == 1:
+                self.assertEqual(read_patch(part + two_bytes(crc(part))).changes, ((1, (5,), (6,)),))
+            else:
+                self.bad(part + two_bytes(crc(part)))
 
     def test_any_bytes(self):
         source = random.Random(53)
