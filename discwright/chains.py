@@ -74,8 +74,9 @@ def table_bytes(table):
     return values
 
 
-def entry_bytes(name, first, values):
-    """The entry of a file with its first block and its bytes."""
+def entry_bytes(name, chain, values):
+    """The entry of a file with its chain of blocks and its bytes."""
+    first = chain[0] if chain else 0
     length = two_bytes(len(values) // 65536) + two_bytes(len(values) % 65536)
     return padded_codes(name) + two_bytes(first) + length + two_bytes(crc(values))
 
@@ -87,6 +88,18 @@ def table_of(chains, first, count):
         for at, index in enumerate(chain):
             table[index] = chain[at + 1] if at + 1 < len(chain) else END
     return table
+
+
+def table_copy(chains, first, count, size):
+    """The bytes of a copy of the table of a disc, up to the end of its last block."""
+    return whole_blocks(table_bytes(table_of(chains, first, count)), size)
+
+
+def system_bytes(chains, entries, count, size, directory):
+    """The bytes of the head, both copies of the table and the directory of a disc with these chains and entries."""
+    tables = table_blocks(count, size)
+    table = table_copy(chains, first_data_block(tables, directory), count, size)
+    return padded(head_bytes(count, tables, directory), size) + table + table + padded(entries, directory * size)
 
 
 def chains_from(first, files, size):
@@ -102,18 +115,16 @@ def chains_from(first, files, size):
 def make_chains(files, count, size, directory):
     """A block disc with a file system of chains and these files."""
     check_files(files, count, size, directory)
-    tables = table_blocks(count, size)
-    first = first_data_block(tables, directory)
+    first = first_data_block(table_blocks(count, size), directory)
     if len(files) * ENTRY_BYTES > directory * size:
         raise InvalidFiles("the directory is too small")
     check_room(files, count, size, first)
     chains = chains_from(first, files, size)
     entries = []
     for (name, values), chain in zip(files, chains):
-        entries.extend(entry_bytes(name, chain[0] if chain else 0, values))
-    table = whole_blocks(table_bytes(table_of(chains, first, count)), size)
-    system = padded(head_bytes(count, tables, directory), size) + table + table + padded(entries, directory * size)
-    return disc_with(system + file_data(files, size), count, size)
+        entries.extend(entry_bytes(name, chain, values))
+    values = system_bytes(chains, entries, count, size, directory) + file_data(files, size)
+    return disc_with(values, count, size)
 
 
 def head_numbers(disc):
@@ -226,6 +237,6 @@ def is_sound(disc):
         return False
     chains = [followed(system, entry)[0] for entry in system.files]
     used = [index for chain in chains for index in chain]
-    table = whole_blocks(table_bytes(table_of(chains, system.first_data, len(disc))), disc.size)
+    table = table_copy(chains, system.first_data, len(disc), disc.size)
     copies = [disc.block(index) for index in range(1, 1 + 2 * system.tables)]
     return len(set(used)) == len(used) and copies == cut(table + table, disc.size)

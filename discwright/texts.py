@@ -5,6 +5,7 @@ from discwright.errors import BadBytes
 CHARACTERS = " !\"#$&'()*+,-./0123456789:;<=>?@ABCDEFGHIJKLMNOPQRSTUVWXYZ[\\]^_`abcdefghijklmnopqrstuvwxyz{|}~"
 NAME_CHARACTERS = "ABCDEFGHIJKLMNOPQRSTUVWXYZ0123456789"
 NAME_LENGTH = 8
+DIGITS = "0123456789"
 
 
 def consists_of(text, characters):
@@ -20,6 +21,15 @@ def is_plain_text(text):
 def is_name(text):
     """True if a text is a name of a file: one to eight upper-case letters and digits."""
     return 1 <= len(text) <= NAME_LENGTH and consists_of(text, NAME_CHARACTERS)
+
+
+def decimal_number(word, most):
+    """The number that a word tells in decimal, without leading zeros and with at most so many digits, or None."""
+    if not 1 <= len(word) <= most or not consists_of(word, DIGITS):
+        return None
+    if word[0] == "0" and len(word) > 1:
+        return None
+    return int(word)
 
 
 def text_codes(text):

@@ -114,6 +114,40 @@ PATCHES = """
 [((1, (2, 3), (9, 9)),), [1, 2, 3, 4], [80, 65, 1, 1, 2, 2]]
 """
 
+ARCHIVES = """
+>>> from discwright.archives import Archive, right_lines, audit
+>>> archive = Archive()
+>>> archive.put("ONE", [1, 2, 3])
+>>> [right_lines(archive.log()), audit({"ONE": [1, 2, 4]}, archive.log())]
+[1, ([], [], ['ONE'])]
+"""
+
+NOISE = """
+>>> from discwright.flux import Read
+>>> from discwright.noise import jittered, at_speed, scratched
+>>> read = Read([200, 300, 200], 90)
+>>> [jittered(read, [5, -7]).intervals, at_speed(read, 11, 10).intervals, scratched(read, 0, 1).intervals]
+[(205, 293, 205), (220, 330, 220), (500, 200)]
+"""
+
+MENDING = """
+>>> from discwright.chains import make_chains, is_sound
+>>> from discwright.mending import mended_chains
+>>> disc = make_chains([("ONE", list(range(40)))], 10, 16, 1).with_block(6, None)
+>>> better, told = mended_chains(disc)
+>>> [is_sound(better), told]
+[True, [('ONE', 24, 16)]]
+"""
+
+CONVERSION = """
+>>> from discwright.chains import make_chains
+>>> from discwright.conversion import converted, compared
+>>> disc = make_chains([("ONE", [1, 2, 3]), ("TWO", [9])], 10, 16, 2)
+>>> other, names = converted(disc, "extents", 6, 32, 2)
+>>> [names, compared(disc, other)]
+[[], [('ONE', 'same'), ('TWO', 'same')]]
+"""
+
 
 class ExamplesTest(unittest.TestCase):
 
@@ -169,6 +203,18 @@ class ExamplesTest(unittest.TestCase):
 
     def test_patches(self):
         self.run_example(PATCHES)
+
+    def test_archives(self):
+        self.run_example(ARCHIVES)
+
+    def test_noise(self):
+        self.run_example(NOISE)
+
+    def test_mending(self):
+        self.run_example(MENDING)
+
+    def test_conversion(self):
+        self.run_example(CONVERSION)
 
 
 if __name__ == "__main__":
