@@ -96,8 +96,8 @@ def track_addresses(place, geometry):
     return [(place[0], place[1], number + 1, geometry[3]) for number in range(geometry[2])]
 
 
-def disc_of(image, geometry):
-    """The block disc that is taken from an image through a geometry."""
+def taken_blocks(image, geometry):
+    """The blocks that are taken from an image through a geometry; all may be missing."""
     check_geometry(geometry)
     blocks = []
     for place in track_places(geometry):
@@ -105,7 +105,12 @@ def disc_of(image, geometry):
         for address in track_addresses(place, geometry):
             outcome = told.get((address, 0), ("lost",))
             blocks.append(outcome[1] if outcome[0] == "good" else None)
-    return BlockDisc(blocks)
+    return blocks
+
+
+def disc_of(image, geometry):
+    """The block disc that is taken from an image through a geometry."""
+    return BlockDisc(taken_blocks(image, geometry))
 
 
 def read_with_blocks(blocks, place, geometry, cell):

@@ -57,3 +57,11 @@ def parity(lists):
 def two_bytes(number):
     """The two bytes of a number from 0 to 65535, the higher one first."""
     return [number // 256, number % 256]
+
+
+def number_of(values):
+    """The number with these bytes, the highest one first."""
+    number = 0
+    for value in values:
+        number = 256 * number + value
+    return number

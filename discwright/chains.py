@@ -1,9 +1,9 @@
 """A file system of chains, after FAT (points 30 to 34)."""
 
-from discwright.bytework import crc, two_bytes
+from discwright.bytework import crc, number_of, two_bytes
 from discwright.errors import InvalidFiles, NoFileSystem
 from discwright.filework import (
-    MOST_DIRECTORY_BLOCKS, assembled, blocks_for, check_files, check_room, cut, disc_with, file_data, number_of, padded,
+    MOST_DIRECTORY_BLOCKS, assembled, blocks_for, check_files, check_room, cut, disc_with, file_data, padded,
     whole_blocks,
 )
 from discwright.texts import is_name, padded_codes, padded_name

@@ -1,8 +1,8 @@
 """Discs with either kind of file system: their files, conversion and comparison (points 61 and 62)."""
 
-from discwright.chains import ChainSystem, head_numbers, make_chains, read_file
-from discwright.errors import NoFileSystem
-from discwright.extents import ExtentSystem, directory_blocks, make_extents, read_entries
+from discwright.chains import ChainSystem, head_numbers, make_chains, read_chain, read_file
+from discwright.errors import InvalidFiles, NoFileSystem
+from discwright.extents import ExtentSystem, directory_blocks, make_extents, read_entries, read_extent
 from discwright.patches import common_beginning
 
 CHAINS = "chains"
@@ -61,6 +61,17 @@ def files_read(disc):
 def all_files(disc):
     """The pairs of the name and the bytes of each file, in the order of the directory."""
     return [(file.name, file.data) for file in files_read(disc)]
+
+
+def file_values(disc, name):
+    """The bytes of the file with a name, or None if there is none, or no file system."""
+    kind = kind_of(disc)
+    try:
+        if kind == CHAINS:
+            return read_chain(disc, name)[0]
+        return read_extent(disc, name)[0] if kind == EXTENTS else None
+    except InvalidFiles:
+        return None
 
 
 def converted(disc, kind, count, size, directory):

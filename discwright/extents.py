@@ -1,10 +1,10 @@
 """A file system of extents, after the directories of CP/M (points 35 to 39)."""
 
 from discwright.blockdiscs import DiscInWork
-from discwright.bytework import crc, total, two_bytes
+from discwright.bytework import crc, number_of, total, two_bytes
 from discwright.errors import InvalidFiles, NoFileSystem
 from discwright.filework import (
-    MOST_DIRECTORY_BLOCKS, assembled, blocks_for, check_files, check_room, cut, disc_with, file_data, number_of, padded,
+    MOST_DIRECTORY_BLOCKS, assembled, blocks_for, check_files, check_room, cut, disc_with, file_data, padded,
 )
 from discwright.texts import padded_codes, padded_name
 

@@ -1,4 +1,4 @@
-"""What both kinds of file systems need: numbers, padding, and files put together from blocks."""
+"""What both kinds of file systems need: padding, and files put together from blocks."""
 
 from discwright.blockdiscs import MOST_BLOCKS, BlockDisc, is_block_size
 from discwright.errors import InvalidFiles
@@ -8,14 +8,6 @@ from discwright.texts import is_name
 LEAST_COUNT = 4
 MOST_DIRECTORY_BLOCKS = 20
 MOST_FILE_BYTES = 60000
-
-
-def number_of(values):
-    """The number with these bytes, the highest one first."""
-    number = 0
-    for value in values:
-        number = 256 * number + value
-    return number
 
 
 def padded(values, length):

@@ -6,6 +6,7 @@ CHARACTERS = " !\"#$&'()*+,-./0123456789:;<=>?@ABCDEFGHIJKLMNOPQRSTUVWXYZ[\\]^_`
 NAME_CHARACTERS = "ABCDEFGHIJKLMNOPQRSTUVWXYZ0123456789"
 NAME_LENGTH = 8
 DIGITS = "0123456789"
+HEX_DIGITS = "0123456789abcdef"
 
 
 def consists_of(text, characters):
@@ -30,6 +31,19 @@ def decimal_number(word, most):
     if word[0] == "0" and len(word) > 1:
         return None
     return int(word)
+
+
+def hex_text(values):
+    """Bytes in two hexadecimal digits each, one behind the other."""
+    return "".join([f"{value:02x}" for value in values])
+
+
+def hex_bytes(word):
+    """The bytes that a word tells in two hexadecimal digits each, or None."""
+    if len(word) % 2 != 0 or not consists_of(word, HEX_DIGITS):
+        return None
+    digits = [HEX_DIGITS.index(digit) for digit in word]
+    return [16 * high + low for high, low in zip(digits[0::2], digits[1::2])]
 
 
 def text_codes(text):

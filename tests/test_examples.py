@@ -1,6 +1,7 @@
 """The examples of the interface, as they stand but for one."""
 
 import doctest
+import pathlib
 import unittest
 
 from discwright.chains import make_chains
@@ -148,6 +149,40 @@ CONVERSION = """
 [[], [('ONE', 'same'), ('TWO', 'same')]]
 """
 
+REPORTS = """
+>>> from discwright.blockdiscs import image_of
+>>> from discwright.chains import make_chains
+>>> from discwright.reports import report, run_task
+>>> image = image_of(make_chains([("A", [1, 171])], 6, 16, 1), (1, 1, 6, 0), 50, "")
+>>> [report(image, (1, 1, 6, 0)), run_task(image, "geometry 1 1 6 0\\nfile A\\nfile B\\nblock 9")]
+[['disc 1 1 6 0', 'track 0 0 reads 1 good 6 bad 0', 'files chains', 'file A 2 whole'], ['01ab', 'no file', 'bad line']]
+"""
+
+GROUPTRACKS = """
+>>> from discwright.grouptracks import group_cells, found_groups
+>>> cells = group_cells([((18, 3, 65, 66), list(range(16)))], 0)
+>>> [(place, address, good, data[:2], right) for place, address, good, data, right in found_groups(cells, 0)]
+[(92, (18, 3, 65, 66), True, (0, 1), True)]
+"""
+
+TRACKTEXTS = """
+>>> from discwright.tracktexts import read_track_text, track_text, sectors_of
+>>> from discwright.tracks import track_cells
+>>> text = "sector 0 0 1 0 229\\nwrong data\\nempty 0 0 2 0\\nweak 40 8"
+>>> sectors, runs, length = read_track_text(text)
+>>> [track_text(sectors, runs, length) == text, sectors_of(track_cells(sectors)) == sectors]
+[True, True]
+"""
+
+OLDIMAGES = """
+>>> from discwright.flux import Read
+>>> from discwright.images import Image, image_bytes
+>>> from discwright.oldimages import old_bytes, migrated
+>>> image = Image(100, "", {(0, 0): [Read([200, 300], 5)]})
+>>> [old_bytes(image)[:7], migrated(old_bytes(image)) == image_bytes(image)]
+[[68, 87, 48, 0, 100, 0, 1], True]
+"""
+
 
 class ExamplesTest(unittest.TestCase):
 
@@ -156,6 +191,13 @@ class ExamplesTest(unittest.TestCase):
         told = []
         result = doctest.DocTestRunner().run(example, out=told.append)
         self.assertEqual(result.failed, 0, "".join(told))
+
+    def test_the_readme(self):
+        """Its examples stand between lines of three backquotes, and follow each other."""
+        text = pathlib.Path(__file__).parent.parent.joinpath("README.md").read_text("utf-8")
+        examples = "\n".join(text.split("```\n")[1::2])
+        self.assertIn("run_task", examples)
+        self.run_example(examples)
 
     def test_bytework(self):
         self.run_example(BYTEWORK)
@@ -215,6 +257,18 @@ class ExamplesTest(unittest.TestCase):
 
     def test_conversion(self):
         self.run_example(CONVERSION)
+
+    def test_reports(self):
+        self.run_example(REPORTS)
+
+    def test_grouptracks(self):
+        self.run_example(GROUPTRACKS)
+
+    def test_tracktexts(self):
+        self.run_example(TRACKTEXTS)
+
+    def test_oldimages_and_collections(self):
+        self.run_example(OLDIMAGES)
 
 
 if __name__ == "__main__":
